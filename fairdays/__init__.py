@@ -1,0 +1,1 @@
+"""Fairdays: days that come again by rules."""
