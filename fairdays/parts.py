@@ -1,7 +1,9 @@
 """Rules made into objects: each part of a rule knows its turn and which days it has.
 
 Making the parts checks the numbers of the whole rule, so a rule that has
-parts is a rule of the document.
+parts is a rule of the document. A part tells of one day with `has`, and with
+`marks`, a list of True or False, of each day of the turn that begins with day
+nought.
 """
 
 from fairdays.divisors import least_multiple
@@ -12,7 +14,12 @@ MOST_DAYS = 60
 MOST_WHICH = 5
 
 
-class EveryPart:
+class PlainPart:
+    def marks(self):
+        return [self.has(day) for day in range(self.turn)]
+
+
+class EveryPart(PlainPart):
     def __init__(self, many, start):
         if not 1 <= many <= MOST_DAYS:
             raise NoRule("every: the number of days is from 1 to 60")
@@ -23,7 +30,7 @@ class EveryPart:
         return (day - self.start) % self.turn == 0
 
 
-class DatePart:
+class DatePart(PlainPart):
     def __init__(self, date):
         if not 1 <= abs(date) <= ODD_MONTH:
             raise NoRule("date: the date is from 1 to 37 or from -37 to -1")
@@ -37,7 +44,7 @@ class DatePart:
         return place[1] - month_length(place[0]) - 1 == self.date
 
 
-class NthPart:
+class NthPart(PlainPart):
     def __init__(self, which, weekday):
         if not 1 <= abs(which) <= MOST_WHICH:
             raise NoRule("nth: the number is from 1 to 5 or from -5 to -1")
@@ -62,20 +69,36 @@ class PairPart:
         self.part = part
         self.other = other
 
+    # The days of a whole turn are joined at once: asked one by one, each of
+    # them would take a walk through all that lies below.
+    def marks(self):
+        marks = self.part.marks() * (self.turn // self.part.turn)
+        others = self.other.marks() * (self.turn // self.other.turn)
+        return self.joined(marks, others)
+
 
 class BothPart(PairPart):
     def has(self, day):
         return self.part.has(day) and self.other.has(day)
+
+    def joined(self, marks, others):
+        return [had and other for had, other in zip(marks, others)]
 
 
 class EitherPart(PairPart):
     def has(self, day):
         return self.part.has(day) or self.other.has(day)
 
+    def joined(self, marks, others):
+        return [had or other for had, other in zip(marks, others)]
+
 
 class ButPart(PairPart):
     def has(self, day):
         return self.part.has(day) and not self.other.has(day)
+
+    def joined(self, marks, others):
+        return [had and not other for had, other in zip(marks, others)]
 
 
 class MovedPart(PairPart):
@@ -100,6 +123,19 @@ class MovedPart(PairPart):
             if not self.other.has(day):
                 return False
         return True
+
+    def joined(self, marks, others):
+        waiting = False
+        # The first walk only tells whether a day of the turn ahead is still
+        # to be moved when the turn begins.
+        for had, shunned in zip(marks, others):
+            waiting = (waiting or had) and shunned
+        moved = []
+        for had, shunned in zip(marks, others):
+            waiting = waiting or had
+            moved.append(waiting and not shunned)
+            waiting = waiting and shunned
+        return moved
 
 
 def part_of(rule):

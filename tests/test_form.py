@@ -126,6 +126,74 @@ class Form(unittest.TestCase):
                             self.assertIsInstance(value, ast.Constant, (file, node.lineno))
                             self.assertIn(value.value, (None, True, False), (file, node.lineno))
 
+    def test_no_name_is_both_a_method_and_a_value(self):
+        methods, values = set(), set()
+        for file, text, tree in self.walked():
+            for node in ast.walk(tree):
+                if isinstance(node, ast.ClassDef):
+                    methods.update(inner.name for inner in node.body if isinstance(inner, ast.FunctionDef))
+                elif isinstance(node, ast.Attribute) and isinstance(node.ctx, ast.Store):
+                    values.add(node.attr)
+        self.assertEqual(methods & values, set())
+
+    def test_each_name_once_at_the_top(self):
+        for file, text, tree in self.walked():
+            names = []
+            for node in tree.body:
+                if isinstance(node, ast.ImportFrom):
+                    names.extend(alias.asname or alias.name for alias in node.names)
+                elif isinstance(node, (ast.FunctionDef, ast.ClassDef)):
+                    names.append(node.name)
+                elif isinstance(node, ast.Assign):
+                    names.append(node.targets[0].id)
+            self.assertEqual(len(names), len(set(names)), file)
+            taken = {name for name in names if name[0].isupper()}
+            taken.update(alias.name for node in tree.body if isinstance(node, ast.ImportFrom) for alias in node.names)
+            for node in ast.walk(tree):
+                if isinstance(node, ast.FunctionDef):
+                    local = {inner.arg for inner in ast.walk(node) if isinstance(inner, ast.arg)}
+                    local.update(inner.id for inner in ast.walk(node)
+                                 if isinstance(inner, ast.Name) and isinstance(inner.ctx, ast.Store))
+                    self.assertEqual(local & taken, set(), (file, node.name))
+
+    def test_each_import_is_used_and_comes_from_the_file_that_defines_it(self):
+        defined = {}
+        for file, text, tree in self.walked():
+            defined[file[:-3]] = {node.name for node in tree.body if isinstance(node, (ast.FunctionDef, ast.ClassDef))}
+            defined[file[:-3]].update(node.targets[0].id for node in tree.body if isinstance(node, ast.Assign))
+        for file, text, tree in self.walked():
+            used = {node.id for node in ast.walk(tree) if isinstance(node, ast.Name)}
+            for node in tree.body:
+                if isinstance(node, ast.ImportFrom):
+                    for alias in node.names:
+                        self.assertIn(alias.name, defined[node.module.split(".")[1]], file)
+                        self.assertIn(alias.name, used, file)
+
+    def test_no_two_files_draw_from_one_another(self):
+        drawn = {}
+        for file, text, tree in self.walked():
+            drawn[file[:-3]] = {node.module.split(".")[1] for node in tree.body if isinstance(node, ast.ImportFrom)}
+        while drawn:
+            free = [file for file, others in drawn.items() if not others & set(drawn)]
+            self.assertNotEqual(free, [], drawn)
+            drawn = {file: others for file, others in drawn.items() if file not in free}
+
+    def test_walks_are_not_kept(self):
+        walked = {"zip", "enumerate", "reversed", "range"}
+        for file, text, tree in self.walked():
+            for node in ast.walk(tree):
+                if isinstance(node, (ast.Assign, ast.Return)) and isinstance(node.value, ast.Call):
+                    called = node.value.func
+                    self.assertFalse(isinstance(called, ast.Name) and called.id in walked, (file, node.lineno))
+
+    def test_numbers_and_texts(self):
+        for file, text, tree in self.walked():
+            for node in ast.walk(tree):
+                if isinstance(node, ast.BinOp) and isinstance(node.op, ast.Pow):
+                    self.assertIsInstance(node.right, ast.Constant, (file, node.lineno))
+                if isinstance(node, ast.Constant) and isinstance(node.value, str):
+                    self.assertNotIn("%", node.value, (file, node.lineno))
+
 
 if __name__ == "__main__":
     unittest.main()

@@ -2,8 +2,11 @@
 
 import unittest
 
-from fairdays.errors import NoRule
+from fairdays.diary import leaf
+from fairdays.errors import NoCount, NoRule
+from fairdays.lines import read, shown
 from fairdays.rules import has_day, turn_of
+from fairdays.search import day_ahead, how_many, next_day, nth_day
 
 WRONG = (
     ("every", 0, 0),
@@ -45,13 +48,39 @@ ALL = ("every", 1, 0)
 NONE = ("but", ALL, ALL)
 
 
+# Each function that takes rules, in all the ways in which it could answer without looking at the whole rule.
+ASKED = (
+    (lambda rule: has_day(rule, -1)),
+    (lambda rule: has_day(rule, 0)),
+    (lambda rule: has_day(rule, 1)),
+    (lambda rule: has_day(rule, 10 ** 99)),
+    (lambda rule: turn_of(rule)),
+    (lambda rule: next_day(rule, 0)),
+    (lambda rule: next_day(rule, -10 ** 99)),
+    (lambda rule: day_ahead(rule, 0)),
+    (lambda rule: day_ahead(rule, 10 ** 99)),
+    (lambda rule: how_many(rule, 0, 0)),
+    (lambda rule: how_many(rule, -10 ** 99, 10 ** 99)),
+    (lambda rule: how_many(rule, 0, -1)),
+    (lambda rule: nth_day(rule, 0, 1)),
+    (lambda rule: nth_day(rule, 0, 0)),
+    (lambda rule: nth_day(rule, 0, -1)),
+    (lambda rule: nth_day(rule, 10 ** 99, -10 ** 99)),
+    (lambda rule: shown(rule)),
+    (lambda rule: leaf([("a", rule)], 0, 0)),
+    (lambda rule: leaf([("a", rule)], 0, -1)),
+    (lambda rule: leaf([("a", ALL), ("b", NONE), ("c", rule)], 0, 9)),
+    (lambda rule: leaf([("a", ALL), ("b", rule), ("c", NONE)], 0, -10 ** 99)),
+    (lambda rule: leaf([("a", rule)] + [("b", ALL)] * 19, 5, 4)),
+    (lambda rule: leaf([("b", ALL)] * 19 + [("a", rule)], 5, 4)),
+)
+
+
 class Refusals(unittest.TestCase):
     def assert_refused(self, rule):
-        for day in (-1, 0, 1, 10 ** 99):
-            with self.assertRaises(NoRule, msg=rule):
-                has_day(rule, day)
-        with self.assertRaises(NoRule, msg=rule):
-            turn_of(rule)
+        for place, asked in enumerate(ASKED):
+            with self.assertRaises(NoRule, msg=(place, rule)):
+                asked(rule)
 
     def test_alone(self):
         for wrong in WRONG:
@@ -83,10 +112,26 @@ class Refusals(unittest.TestCase):
                 self.assert_refused(right)
 
 
+class WholeDiaries(unittest.TestCase):
+    def test_a_wrong_rule_in_each_place(self):
+        for place in range(20):
+            diary = [("right", ALL)] * 20
+            diary[place] = ("wrong", ("both", NONE, ("date", 38)))
+            for first, last in ((0, 999), (0, 0), (0, -1), (10 ** 99, -10 ** 99)):
+                with self.assertRaises(NoRule):
+                    leaf(diary, first, last)
+
+
 class NoRefusals(unittest.TestCase):
     def assert_taken(self, rule):
+        for place, asked in enumerate(ASKED):
+            try:
+                asked(rule)
+            except NoCount:
+                self.assertIn(place, (13, 14, 15), rule)
         self.assertIn(has_day(rule, 0), (True, False))
         self.assertGreater(turn_of(rule), 0)
+        self.assertEqual(read(shown(rule)), rule)
 
     def test_numbers_at_the_bounds(self):
         for right in RIGHT:
